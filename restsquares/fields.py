@@ -1,13 +1,21 @@
 """Fields of plants that have two kinds each: the calls on one object, and what each answers."""
 
 from restsquares.shares import (
+    generations_to_rest,
+    is_at_rest,
+    lack_of_mixed,
     later_weights,
+    left_by_halves,
     pair_count,
     pair_place,
+    rarest_kind,
+    share_expected,
     share_mixed,
     share_of_kind,
     share_of_pair,
     weights_by_any,
+    weights_crossed,
+    weights_together,
 )
 
 NO_FIELD = -2
@@ -16,6 +24,7 @@ NOT_STARTED = -11
 TOO_FEW = -12
 WRONG = -22
 FULL = -28
+NO_ANSWER = -33
 
 FEWEST_KINDS = 2
 MOST_KINDS = 4
@@ -23,6 +32,7 @@ MOST_FIELDS = 6
 MOST_OF_A_PAIR = 100
 MOST_OF_HUNDRED = 100
 MOST_GENERATIONS = 3
+MOST_HALVES = 10
 
 START = 0
 FIELD = 1
@@ -47,11 +57,13 @@ def is_no_kind(garden, asked_kinds):
 
 
 # What refuses a call that asks for shares, or 0; the first one named in the document is answered.
-def shares_refusal(garden, f, asked_kinds):
-    if is_no_field(garden, f):
-        return NO_FIELD
-    if sum(garden.fields[f]) == 0:
-        return NO_PLANTS
+# So all that the first field is refused for goes ahead of what the second one is.
+def shares_refusal(garden, asked_fields, asked_kinds):
+    for f in asked_fields:
+        if is_no_field(garden, f):
+            return NO_FIELD
+        if sum(garden.fields[f]) == 0:
+            return NO_PLANTS
     if is_no_kind(garden, asked_kinds):
         return WRONG
     return 0
@@ -64,6 +76,11 @@ def change_refusal(garden, f, asked_kinds, n):
     if is_no_kind(garden, asked_kinds) or n == 0:
         return WRONG
     return 0
+
+
+def one_if(holds):
+    # A whole number is asked for, never True or False.
+    return 1 if holds else 0
 
 
 def answer_start(garden, told):
@@ -111,7 +128,7 @@ def answer_take(garden, told):
 
 
 def answer_share(garden, told):
-    refusal = shares_refusal(garden, told[0], told[1:])
+    refusal = shares_refusal(garden, told[:1], told[1:])
     if refusal != 0:
         return [refusal]
     plants = garden.fields[told[0]]
@@ -119,7 +136,7 @@ def answer_share(garden, told):
 
 
 def answer_kind(garden, told):
-    refusal = shares_refusal(garden, told[0], told[1:])
+    refusal = shares_refusal(garden, told[:1], told[1:])
     if refusal != 0:
         return [refusal]
     plants = garden.fields[told[0]]
@@ -127,7 +144,7 @@ def answer_kind(garden, told):
 
 
 def answer_next(garden, told):
-    refusal = shares_refusal(garden, told[0], told[1:])
+    refusal = shares_refusal(garden, told[:1], told[1:])
     if refusal != 0:
         return [refusal]
     children = weights_by_any(garden.kinds, garden.fields[told[0]])
@@ -137,7 +154,7 @@ def answer_next(garden, told):
 def answer_after(garden, told):
     s = told[1]
     n = told[2]
-    refusal = shares_refusal(garden, told[0], told[3:])
+    refusal = shares_refusal(garden, told[:1], told[3:])
     if refusal != 0:
         return [refusal]
     if s > MOST_OF_HUNDRED or n > MOST_GENERATIONS:
@@ -147,18 +164,100 @@ def answer_after(garden, told):
 
 
 def answer_mixed(garden, told):
-    refusal = shares_refusal(garden, told[0], [])
+    refusal = shares_refusal(garden, told[:1], [])
     if refusal != 0:
         return [refusal]
     return [0] + share_mixed(garden.kinds, garden.fields[told[0]])
 
 
 def answer_expected(garden, told):
-    refusal = shares_refusal(garden, told[0], [])
+    refusal = shares_refusal(garden, told[:1], [])
     if refusal != 0:
         return [refusal]
-    children = weights_by_any(garden.kinds, garden.fields[told[0]])
-    return [0] + share_mixed(garden.kinds, children)
+    return [0] + share_expected(garden.kinds, garden.fields[told[0]])
+
+
+def answer_lack(garden, told):
+    refusal = shares_refusal(garden, told[:1], [])
+    if refusal != 0:
+        return [refusal]
+    plants = garden.fields[told[0]]
+    expected = share_expected(garden.kinds, plants)
+    if expected[0] == 0:
+        return [NO_ANSWER]
+    return [0] + lack_of_mixed(share_mixed(garden.kinds, plants), expected)
+
+
+def answer_rest(garden, told):
+    refusal = shares_refusal(garden, told[:1], [])
+    if refusal != 0:
+        return [refusal]
+    return [one_if(is_at_rest(garden.kinds, garden.fields[told[0]]))]
+
+
+def answer_soon(garden, told):
+    n = told[1]
+    refusal = shares_refusal(garden, told[:1], [])
+    if refusal != 0:
+        return [refusal]
+    if n > MOST_GENERATIONS:
+        return [WRONG]
+    found = generations_to_rest(garden.kinds, garden.fields[told[0]], n)
+    if found is None:
+        return [NO_ANSWER]
+    return [found]
+
+
+def answer_together(garden, told):
+    refusal = shares_refusal(garden, told[:2], [])
+    if refusal != 0:
+        return [refusal]
+    plants = weights_together(garden.fields[told[0]], garden.fields[told[1]])
+    return [0] + share_expected(garden.kinds, plants) + share_mixed(garden.kinds, plants)
+
+
+def answer_cross(garden, told):
+    refusal = shares_refusal(garden, told[:2], told[2:])
+    if refusal != 0:
+        return [refusal]
+    children = weights_crossed(garden.kinds, garden.fields[told[0]], garden.fields[told[1]])
+    return [0] + share_of_pair(garden.kinds, children, told[2], told[3])
+
+
+def answer_cross_next(garden, told):
+    refusal = shares_refusal(garden, told[:2], [])
+    if refusal != 0:
+        return [refusal]
+    children = weights_crossed(garden.kinds, garden.fields[told[0]], garden.fields[told[1]])
+    behind = weights_by_any(garden.kinds, children)
+    return [one_if(is_at_rest(garden.kinds, children)), one_if(is_at_rest(garden.kinds, behind))]
+
+
+def answer_rarest(garden, told):
+    refusal = shares_refusal(garden, told[:1], [])
+    if refusal != 0:
+        return [refusal]
+    plants = garden.fields[told[0]]
+    i = rarest_kind(garden.kinds, plants)
+    return [i] + share_of_kind(garden.kinds, plants, i)
+
+
+def answer_size(garden, told):
+    if is_no_field(garden, told[0]):
+        return [NO_FIELD]
+    return [sum(garden.fields[told[0]])]
+
+
+def answer_half(garden, told):
+    s = told[0]
+    n = told[1]
+    if s > MOST_OF_HUNDRED or n > MOST_HALVES:
+        return [WRONG]
+    return [0] + left_by_halves(s, n)
+
+
+def answer_state(garden, told):
+    return [garden.kinds, len(garden.fields)]
 
 
 # By the call's number.
@@ -173,14 +272,22 @@ ANSWERERS = (
     answer_after,
     answer_mixed,
     answer_expected,
+    answer_lack,
+    answer_rest,
+    answer_soon,
+    answer_together,
+    answer_cross,
+    answer_cross_next,
+    answer_rarest,
+    answer_size,
+    answer_half,
+    answer_state,
 )
 
 
 def answer_of(garden, number, told):
     if garden.kinds == 0 and number != START:
         return [NOT_STARTED]
-    if number >= len(ANSWERERS):
-        raise NotImplementedError(f"call {number} is not written yet")
     answerer = ANSWERERS[number]
     return answerer(garden, told)
 

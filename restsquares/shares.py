@@ -42,15 +42,22 @@ def kind_weights(kinds, weights):
     return found
 
 
-# The next generation if any two meet alike; its sum is four times the square of the old one.
-def weights_by_any(kinds, weights):
-    of_kinds = kind_weights(kinds, weights)
+# The children if she is always of the one, he of the other; their sum is four times the product of both sums.
+def weights_crossed(kinds, hers, his):
+    of_hers = kind_weights(kinds, hers)
+    of_his = kind_weights(kinds, his)
     children = []
     for i in range(kinds):
-        children.append(of_kinds[i] * of_kinds[i])
+        children.append(of_hers[i] * of_his[i])
         for j in range(i + 1, kinds):
-            children.append(2 * of_kinds[i] * of_kinds[j])
+            # Either kind of the pair may come from her.
+            children.append(of_hers[i] * of_his[j] + of_hers[j] * of_his[i])
     return children
+
+
+# The next generation if any two meet alike; its sum is four times the square of the old one.
+def weights_by_any(kinds, weights):
+    return weights_crossed(kinds, weights, weights)
 
 
 # The next generation if each meets itself alone; its sum is four times the old one.
@@ -81,6 +88,27 @@ def later_weights(kinds, weights, s, n):
     return later
 
 
+def weights_together(one, other):
+    return [first + second for first, second in zip(one, other)]
+
+
+def is_at_rest(kinds, weights):
+    children = weights_by_any(kinds, weights)
+    total = sum(weights)
+    children_total = sum(children)
+    return all([own * children_total == child * total for own, child in zip(weights, children)])
+
+
+# After how many generations, at most n, the weights are at rest first; None if they aren't by then.
+def generations_to_rest(kinds, weights, n):
+    later = list(weights)
+    for generation in range(n + 1):
+        if is_at_rest(kinds, later):
+            return generation
+        later = weights_by_any(kinds, later)
+    return None
+
+
 def share_of_pair(kinds, weights, i, j):
     return fraction(weights[pair_place(kinds, i, j)], sum(weights))
 
@@ -93,3 +121,30 @@ def share_mixed(kinds, weights):
     total = sum(weights)
     alike = sum([weights[pair_place(kinds, i, i)] for i in range(kinds)])
     return fraction(total - alike, total)
+
+
+def share_expected(kinds, weights):
+    return share_mixed(kinds, weights_by_any(kinds, weights))
+
+
+# One less mixed by expected; there is none if expected is 0.
+def lack_of_mixed(mixed, expected):
+    whole = expected[0] * mixed[1]
+    return fraction(whole - mixed[0] * expected[1], whole)
+
+
+def rarest_kind(kinds, weights):
+    of_kinds = kind_weights(kinds, weights)
+    return of_kinds.index(min(of_kinds))
+
+
+# What is left of 1 when half of s hundredths is taken away, n times with itself.
+def left_by_halves(s, n):
+    # Half of s hundredths is s by twice as many; that way nothing is divided before the end.
+    whole = 2 * HUNDRED
+    upper = 1
+    lower = 1
+    for step in range(n):
+        upper = upper * (whole - s)
+        lower = lower * whole
+    return fraction(upper, lower)

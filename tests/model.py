@@ -16,13 +16,17 @@ def met(one, other):
     return children
 
 
-def by_any(shares):
-    children = {pair: Fraction(0) for pair in shares}
-    for one, first in shares.items():
-        for other, second in shares.items():
+def crossed(hers, his):
+    children = {pair: Fraction(0) for pair in hers}
+    for one, first in hers.items():
+        for other, second in his.items():
             for pair, part in met(one, other).items():
                 children[pair] += first * second * part
     return children
+
+
+def by_any(shares):
+    return crossed(shares, shares)
 
 
 def by_themselves(shares):
@@ -48,14 +52,27 @@ def kind(shares, i):
     return sum((share * pair.count(i) / 2 for pair, share in shares.items()), Fraction(0))
 
 
-def told(share):
-    return [0, share.numerator, share.denominator]
+def told(*shares):
+    found = [0]
+    for share in shares:
+        found += [share.numerator, share.denominator]
+    return found
+
+
+def rests(shares):
+    return int(by_any(shares) == shares)
+
+
+def by_all(plants):
+    total = sum(plants.values())
+    return {pair: Fraction(count, total) for pair, count in plants.items()}
 
 
 class Model:
     """One object; each call is a method that gives its answer."""
 
     def __init__(self):
+        self.kinds = 0
         self.pairs = None
         self.plants = []
 
@@ -65,8 +82,7 @@ class Model:
         return getattr(self, call[0])(*call[1:])
 
     def shares(self, f):
-        total = sum(self.plants[f].values())
-        return {pair: Fraction(count, total) for pair, count in self.plants[f].items()}
+        return by_all(self.plants[f])
 
     def refusal(self, f, kinds, wrong=False):
         if f not in range(len(self.plants)):
@@ -77,9 +93,13 @@ class Model:
             return [-22]
         return None
 
+    def refusal_of_two(self, f, g, kinds):
+        return self.refusal(f, ()) or self.refusal(g, ()) or self.refusal(f, kinds)
+
     def start(self, k):
         if k not in (2, 3, 4):
             return [-22]
+        self.kinds = k
         self.pairs = [(i, j) for i in range(k) for j in range(k) if i <= j]
         self.plants = []
         return [0]
@@ -133,3 +153,59 @@ class Model:
 
     def expected(self, f):
         return self.refusal(f, ()) or told(mixed(by_any(self.shares(f))))
+
+    def lack(self, f):
+        refusal = self.refusal(f, ())
+        if refusal:
+            return refusal
+        expected = mixed(by_any(self.shares(f)))
+        return told(1 - mixed(self.shares(f)) / expected) if expected else [-33]
+
+    def rest(self, f):
+        return self.refusal(f, ()) or [rests(self.shares(f))]
+
+    def soon(self, f, n):
+        refusal = self.refusal(f, (), n > 3)
+        if refusal:
+            return refusal
+        shares = self.shares(f)
+        behind = 0
+        while behind <= n:
+            if rests(shares):
+                return [behind]
+            shares = by_any(shares)
+            behind += 1
+        return [-33]
+
+    def together(self, f, g):
+        refusal = self.refusal_of_two(f, g, ())
+        if refusal:
+            return refusal
+        shares = by_all({pair: self.plants[f][pair] + self.plants[g][pair] for pair in self.pairs})
+        return told(mixed(by_any(shares)), mixed(shares))
+
+    def cross(self, f, g, i, j):
+        return self.refusal_of_two(f, g, (i, j)) or told(crossed(self.shares(f), self.shares(g))[key(i, j)])
+
+    def crossNext(self, f, g):
+        refusal = self.refusal_of_two(f, g, ())
+        if refusal:
+            return refusal
+        children = crossed(self.shares(f), self.shares(g))
+        return [rests(children), rests(by_any(children))]
+
+    def rarest(self, f):
+        refusal = self.refusal(f, ())
+        if refusal:
+            return refusal
+        share, i = min((kind(self.shares(f), i), i) for i in range(self.kinds))
+        return [i, share.numerator, share.denominator]
+
+    def size(self, f):
+        return [sum(self.plants[f].values())] if f in range(len(self.plants)) else [-2]
+
+    def half(self, s, n):
+        return [-22] if s > 100 or n > 10 else told((1 - Fraction(s, 100) / 2) ** n)
+
+    def state(self):
+        return [self.kinds, len(self.plants)]

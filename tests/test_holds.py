@@ -1,12 +1,10 @@
-"""What holds of every field, and the same calls answered by the model."""
+"""What holds of every field, and of two."""
 
 import itertools
 import unittest
 from fractions import Fraction
 
-from tests.line import MOST, ask, lay, pairs, take_apart
-from tests.model import Model
-from restsquares.fields import answers
+from tests.line import ask, pairs
 
 
 def fields(kinds):
@@ -17,6 +15,20 @@ def fields(kinds):
             yield list(plants)
     yield [100] * len(pairs(kinds))
     yield [(7 * place * place + 3) % 101 for place in range(len(pairs(kinds)))]
+
+
+def resting(kinds):
+    """Fields at rest: each pair as often as the product of its kinds' parts asks."""
+    parts = (0, 1, 2, 4, 7) if kinds == 2 else (0, 1, 2, 3) if kinds == 3 else (0, 1, 2)
+    for of_kinds in itertools.product(parts, repeat=kinds):
+        if any(of_kinds):
+            yield [of_kinds[i] * of_kinds[j] * (1 if i == j else 2) for i, j in pairs(kinds)]
+
+
+def few(kinds):
+    """Some of the fields, so few that each can be asked for with each other one."""
+    found = list(fields(kinds))
+    return found[::len(found) // 25] + found[-2:]
 
 
 def fractions(found):
@@ -86,77 +98,100 @@ class Holds(unittest.TestCase):
             shares = self.asked(2, plants, [("share", 0, i, j) for i, j in pairs(2)])
             later = self.asked(2, plants, [("next", 0, i, j) for i, j in pairs(2)])
             self.assertEqual(shares == later, plants[1] ** 2 == 4 * plants[0] * plants[2])
+            rests = int(plants[1] ** 2 == 4 * plants[0] * plants[2])
+            self.assertEqual(ask(("start", 2), ("field", plants), ("rest", 0))[2], [rests])
+
+    def test_it_rests_exactly_when_next_is_as_it_is(self):
+        for k in (2, 3, 4):
+            for plants in itertools.chain(fields(k), resting(k)):
+                shares = self.asked(k, plants, [("share", 0, i, j) for i, j in pairs(k)])
+                later = self.asked(k, plants, [("next", 0, i, j) for i, j in pairs(k)])
+                found = ask(("start", k), ("field", plants), ("rest", 0), *[("soon", 0, n) for n in range(4)])[2:]
+                rests = [[1], [0], [0], [0], [0]]
+                moves = [[0], [-33], [1], [1], [1]]
+                self.assertEqual(found, rests if shares == later else moves)
+
+    def test_fields_at_rest_rest(self):
+        for k in (2, 3, 4):
+            for plants in resting(k):
+                self.assertEqual(ask(("start", k), ("field", plants), ("rest", 0), ("soon", 0, 0))[2:], [[1], [0]])
+
+    def test_lack_is_one_less_mixed_by_expected(self):
+        for k in (2, 3, 4):
+            for plants in fields(k):
+                mixed, expected = self.asked(k, plants, [("mixed", 0), ("expected", 0)])
+                if expected > 0:
+                    self.assertEqual(self.asked(k, plants, [("lack", 0)]), [1 - mixed / expected])
+                else:
+                    self.assertEqual(ask(("start", k), ("field", plants), ("lack", 0))[2], [-33])
+
+    def test_half_is_what_is_left_mixed_by_themselves_alone(self):
+        for plants in fields(2):
+            mixed = self.asked(2, plants, [("mixed", 0)])[0]
+            left = self.asked(2, plants, [("half", 100, n) for n in range(4)])
+            later = self.asked(2, plants, [("after", 0, 100, n, 0, 1) for n in range(4)])
+            self.assertEqual(later, [mixed * part for part in left])
 
 
-class Numbers:
-    """A fixed row of numbers that looks like no row at all."""
+class TwoFieldsHold(unittest.TestCase):
+    def asked(self, kinds, one, other, calls):
+        return ask(("start", kinds), ("field", one), ("field", other), *calls)[3:]
 
-    def __init__(self, begin):
-        self.state = begin
+    def alike(self, kinds, one, other):
+        """Whether the kinds' shares are alike."""
+        found = self.asked(kinds, one, other, [("kind", f, i) for f in (0, 1) for i in range(kinds)])
+        return found[:kinds] == found[kinds:]
 
-    def below(self, bound):
-        self.state = (self.state * 6364136223846793005 + 1442695040888963407) % 2 ** 64
-        return (self.state >> 33) % bound
-
-    def one_of(self, choices):
-        return choices[self.below(len(choices))]
-
-
-def some_plants(numbers, kinds):
-    length = numbers.one_of([len(pairs(kinds))] * 9 + [numbers.below(61)])
-    bound = numbers.one_of([1, 2, 4, 101, 101, 102])
-    return [numbers.below(bound) for place in range(length)]
-
-
-def some_call(numbers, kinds):
-    name = numbers.one_of(
-        ["field", "put", "put", "take", "take", "share", "kind", "next", "after", "after", "mixed", "expected"]
-        + ["start"] * (numbers.below(12) == 0)
-    )
-    if name == "start":
-        return (name, numbers.one_of([2, 3, 4, 2, 3, 4, 0, 1, 5, MOST]))
-    if name == "field":
-        return (name, some_plants(numbers, kinds))
-    f = numbers.one_of([0, 0, 0, 1, 1, 2, 3, 4, 5, 6, MOST])
-    i = numbers.one_of([0, 1, 0, 1, 0, 1, 2, 2, 3, 4, MOST])
-    j = numbers.one_of([0, 1, 0, 1, 0, 1, 2, 2, 3, 4, MOST])
-    n = numbers.one_of([1, 2, 3, 50, 99, 100, 101, 0, MOST, numbers.below(100)])
-    s = numbers.one_of([0, 100, 101, MOST] + [numbers.below(101)] * 8)
-    generations = numbers.one_of([0, 1, 1, 2, 2, 3, 3, 4, MOST])
-    told = {
-        "put": (f, i, j, n), "take": (f, i, j, n), "share": (f, i, j), "kind": (f, i), "next": (f, i, j),
-        "after": (f, s, generations, i, j), "mixed": (f,), "expected": (f,),
-    }
-    return (name, *told[name])
-
-
-class AgainstTheModel(unittest.TestCase):
-    def test_many_lines(self):
+    def test_at_rest_and_thrown_together_no_more_mixed_than_expected(self):
         seen = set()
-        for begin in range(150):
-            numbers = Numbers(begin)
-            kinds = numbers.one_of([2, 3, 4])
-            calls = [("start", kinds)] * (begin % 5 != 0)
-            while len(calls) < 60:
-                calls.append(some_call(numbers, kinds))
-            model = Model()
-            expected = [model.answer(call) for call in calls]
-            found = take_apart(answers(lay(calls)))
-            for call, answer, other in zip(calls, found, expected, strict=True):
-                self.assertEqual(answer, other, (begin, call))
-                seen.add((call[0], min(answer[0], 0)))
-        self.assertEqual(seen, EVERY_ANSWER)
+        for k, step in ((2, 1), (3, 3), (4, 4)):
+            some = list(resting(k))[::step]
+            some.append([3 * count for count in some[1]])
+            for one, other in itertools.product(some, some):
+                answer = self.asked(k, one, other, [("together", 0, 1)])[0]
+                expected = Fraction(answer[1], answer[2])
+                mixed = Fraction(answer[3], answer[4])
+                self.assertLessEqual(mixed, expected)
+                self.assertEqual(mixed == expected, self.alike(k, one, other))
+                seen.add((k, mixed == expected, one == other))
+        for k in (2, 3, 4):
+            self.assertLessEqual({(k, True, True), (k, False, False), (k, True, False)}, seen)
 
+    def test_thrown_together_is_one_field_of_all_the_plants(self):
+        for k in (2, 3, 4):
+            for one, other in itertools.product(few(k), few(k)):
+                both = [a + b for a, b in zip(one, other)]
+                if max(both) > 100:
+                    continue
+                answer = self.asked(k, one, other, [("together", 0, 1)])[0]
+                found = ask(("start", k), ("field", both), ("expected", 0), ("mixed", 0))[2:]
+                self.assertEqual(answer, found[0] + found[1][1:])
 
-SHARES = ("share", "kind", "next", "after", "mixed", "expected")
-EVERY_ANSWER = (
-    {("start", 0), ("start", -22)}
-    | {("field", number) for number in (0, -11, -22, -28)}
-    | {("put", number) for number in (0, -11, -2, -22)}
-    | {("take", number) for number in (0, -11, -2, -22, -12)}
-    | {(name, number) for name in SHARES for number in (0, -11, -2, -6)}
-    | {(name, -22) for name in ("share", "kind", "next", "after")}
-)
+    def test_children_of_two_fields_are_mixed_as_much_as_expected_at_least(self):
+        for k in (2, 3, 4):
+            for one, other in itertools.product(few(k), few(k)):
+                children = fractions(self.asked(k, one, other, [("cross", 0, 1, i, j) for i, j in pairs(k)]))
+                self.assertEqual(sum(children), 1)
+                mixed = sum(share for (i, j), share in zip(pairs(k), children) if i != j)
+                of_kinds = [
+                    sum(share * pair.count(i) for pair, share in zip(pairs(k), children)) / 2 for i in range(k)
+                ]
+                expected = 1 - sum(share * share for share in of_kinds)
+                self.assertGreaterEqual(mixed, expected)
+                self.assertEqual(mixed == expected, self.alike(k, one, other))
+
+    def test_children_of_two_fields_rest_one_generation_later(self):
+        for k in (2, 3, 4):
+            for one, other in itertools.product(few(k), few(k)):
+                found = self.asked(k, one, other, [("crossNext", 0, 1), ("crossNext", 1, 0)])
+                answer = [int(self.alike(k, one, other)), 1]
+                self.assertEqual(found, [answer, answer])
+
+    def test_she_or_he_of_either_field_is_the_same(self):
+        for k in (2, 3, 4):
+            for one, other in itertools.product(few(k)[::4], few(k)):
+                calls = [[("cross", f, g, i, j) for i, j in pairs(k)] for f, g in ((0, 1), (1, 0))]
+                self.assertEqual(self.asked(k, one, other, calls[0]), self.asked(k, one, other, calls[1]))
 
 
 if __name__ == "__main__":

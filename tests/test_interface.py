@@ -6,11 +6,16 @@ import restsquares
 from restsquares.fields import answers
 from tests.line import MOST, lay
 
+# The calls 0 to 9, then a second start and field, and with these the calls 10 to 19.
 EVERY_CALL = [
     0, 2, 1, 3, 3, 2, 1, 2, 0, 0, 1, 5, 3, 0, 1, 0, 4, 4, 0, 0, 1, 5, 0, 1, 6, 0, 1, 1, 7, 0, 50, 1, 0, 1, 8, 0, 9, 0,
+    0, 2, 1, 3, 3, 2, 1, 1, 3, 1, 0, 3, 10, 0, 11, 0, 12, 0, 3, 13, 0, 1, 14, 0, 1, 0, 1, 15, 0, 1, 16, 0, 17, 0,
+    18, 50, 2, 19,
 ]
 THEIR_ANSWERS = [
     1, 0, 1, 0, 1, 7, 1, 3, 3, 0, 3, 7, 3, 0, 5, 14, 3, 0, 25, 196, 3, 0, 33, 98, 3, 0, 3, 7, 3, 0, 45, 98,
+    1, 0, 1, 0, 1, 1, 3, 0, 1, 4, 1, 0, 1, 1, 5, 0, 1, 2, 1, 5, 3, 0, 7, 12, 2, 0, 1, 3, 1, 1, 3, 1, 6,
+    3, 0, 9, 16, 2, 2, 2,
 ]
 
 
@@ -38,6 +43,15 @@ class Interface(unittest.TestCase):
                  (14, 4), (15, 2), (16, 1), (17, 1), (18, 2), (19, 0)]
         for number, many in calls:
             self.assertEqual(answers([number] + [0] * many + [0, 3]), [1, -11, 1, 0])
+
+    def test_calls_behind_a_start_are_passed_over_whole(self):
+        calls = [(2, 4), (3, 4), (4, 3), (5, 2), (6, 3), (7, 5), (8, 1), (9, 1), (10, 1), (11, 1), (12, 2), (13, 2),
+                 (14, 4), (15, 2), (16, 1), (17, 1)]
+        for number, many in calls:
+            self.assertEqual(answers([0, 2, number] + [0] * many + [0, 3]), [1, 0, 1, -2, 1, 0])
+        self.assertEqual(answers([0, 2, 18, 0, 0, 0, 3]), [1, 0, 3, 0, 1, 1, 1, 0])
+        self.assertEqual(answers([0, 2, 18, 101, 0, 0, 3]), [1, 0, 1, -22, 1, 0])
+        self.assertEqual(answers([0, 2, 19, 0, 3]), [1, 0, 2, 2, 0, 1, 0])
 
     def test_two_hundred_calls(self):
         calls = [("start", 4), ("field", [100] * 10)] + [("after", 0, 33, 3, 0, 1)] * 198

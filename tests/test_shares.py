@@ -1,4 +1,4 @@
-"""Point 2: share, kind, next; and the refusals of every call that asks for shares."""
+"""Point 2: share, kind, next; and -2, -6 and -22 of every call that asks for shares of a field."""
 
 import unittest
 
@@ -11,10 +11,11 @@ FOUR = (("start", 4), ("field", [1, 0, 2, 1, 0, 3, 0, 2, 0, 1]))
 # What asks for shares; f, then numbers that would do with a field of two kinds.
 ASKING = [
     ("share", 0, 0, 1), ("kind", 0, 1), ("next", 0, 0, 1), ("after", 0, 50, 2, 0, 1),
-    ("mixed", 0), ("expected", 0),
+    ("mixed", 0), ("expected", 0), ("lack", 0), ("rest", 0), ("soon", 0, 3), ("together", 0, 0),
+    ("cross", 0, 0, 0, 1), ("crossNext", 0, 0), ("rarest", 0),
 ]
-# Where the kinds stand in such a call.
-KINDS_AT = {"share": (2, 3), "kind": (2,), "next": (2, 3), "after": (4, 5), "mixed": (), "expected": ()}
+# Where the kinds stand in such a call, if any.
+KINDS_AT = {"share": (2, 3), "kind": (2,), "next": (2, 3), "after": (4, 5), "cross": (3, 4)}
 
 
 def put_in(call, place, number):
@@ -140,7 +141,7 @@ class Refusals(unittest.TestCase):
     def test_no_such_kind(self):
         for k, begin in ((2, TWO), (3, THREE), (4, FOUR)):
             for call in ASKING:
-                for place in KINDS_AT[call[0]]:
+                for place in KINDS_AT.get(call[0], ()):
                     for i in (k, k + 1, 2 ** 31, MOST):
                         with self.subTest(call=call, place=place, i=i):
                             self.assertEqual(ask_last(*begin, put_in(call, place, i)), [-22])

@@ -23,9 +23,11 @@ class BeforeAStart(unittest.TestCase):
             ("field", []), ("field", [MOST] * 60), ("put", MOST, MOST, MOST, 0),
             ("take", MOST, MOST, MOST, 0), ("share", MOST, MOST, MOST), ("kind", MOST, MOST),
             ("next", MOST, MOST, MOST), ("after", MOST, MOST, MOST, MOST, MOST),
-            ("mixed", MOST), ("expected", MOST),
+            ("mixed", MOST), ("expected", MOST), ("lack", MOST), ("rest", MOST), ("soon", MOST, MOST),
+            ("together", MOST, MOST), ("cross", MOST, MOST, MOST, MOST), ("crossNext", MOST, MOST),
+            ("rarest", MOST), ("size", MOST), ("half", MOST, MOST), ("half", 101, 11), ("state",),
         )
-        self.assertEqual(found, [[-11]] * 10)
+        self.assertEqual(found, [[-11]] * 21)
 
     def test_a_refused_start_starts_nothing(self):
         for k in (0, 1, 5, MOST):
